@@ -13,16 +13,21 @@ const (
 	pc = 15
 )
 
+// controls: how many registers a coprocessor has.
+const controls = 16
+
 // always: the condition that is not written.
 const always = 14
 
 // registerNames: as they are written; the last three are read by their numbers too.
-var registerNames = [...]string{
-	"r0", "r1", "r2", "r3", "r4", "r5", "r6", "r7", "r8", "r9", "r10", "r11", "r12", "sp", "lr", "pc",
+func registerNames() [pc + 1]string {
+	return [...]string{"r0", "r1", "r2", "r3", "r4", "r5", "r6", "r7", "r8", "r9", "r10", "r11", "r12", "sp", "lr", "pc"}
 }
 
 // conditions: the words of those below always, by their numbers.
-var conditions = [...]string{"eq", "ne", "cs", "cc", "mi", "pl", "vs", "vc", "hi", "ls", "ge", "lt", "gt", "le"}
+func conditions() [always]string {
+	return [...]string{"eq", "ne", "cs", "cc", "mi", "pl", "vs", "vc", "hi", "ls", "ge", "lt", "gt", "le"}
+}
 
 // shift: its word, and the bounds of the number behind it.
 type shift struct {
@@ -31,11 +36,13 @@ type shift struct {
 }
 
 // shifts: by their kinds.
-var shifts = [...]shift{
-	api.ShLSL: {"lsl", 0, 31},
-	api.ShLSR: {"lsr", 1, 32},
-	api.ShASR: {"asr", 1, 32},
-	api.ShROR: {"ror", 1, 31},
+func shifts() [api.ShROR + 1]shift {
+	return [...]shift{
+		api.ShLSL: {"lsl", 0, 31},
+		api.ShLSR: {"lsr", 1, 32},
+		api.ShASR: {"asr", 1, 32},
+		api.ShROR: {"ror", 1, 31},
+	}
 }
 
 // rrx: the word of a turn by one bit through the carry, which stands in an instruction as a turn by none.
@@ -46,7 +53,7 @@ const maskLetters = "fsxc"
 
 // registerOf: the number of a register.
 func registerOf(text string) (int, bool) {
-	for n, name := range registerNames {
+	for n, name := range registerNames() {
 		if text == name || n >= sp && text == numbered('r', n) {
 			return n, true
 		}
@@ -56,7 +63,7 @@ func registerOf(text string) (int, bool) {
 
 // controlOf: the number of c0 to c15.
 func controlOf(text string) (int, bool) {
-	for n := range len(registerNames) {
+	for n := range controls {
 		if text == numbered('c', n) {
 			return n, true
 		}
@@ -71,7 +78,7 @@ func conditionOf(text string) (int, bool) {
 	if text == "" || text == "al" {
 		return always, true
 	}
-	for n, name := range conditions {
+	for n, name := range conditions() {
 		if text == name {
 			return n, true
 		}
@@ -83,12 +90,12 @@ func conditionText(cond int) string {
 	if cond == always {
 		return ""
 	}
-	return conditions[cond]
+	return conditions()[cond]
 }
 
 // shiftOf: the kind of a shift that has a number, or a register, behind it.
 func shiftOf(text string) (int, bool) {
-	for kind, s := range shifts {
+	for kind, s := range shifts() {
 		if text == s.name {
 			return kind, true
 		}

@@ -21,10 +21,12 @@ const (
 const startLabel = "start"
 
 // sectionRights: what may be done with the bytes of each.
-var sectionRights = [sections]api.Rights{
-	api.SecText:   {Read: true, Exec: true},
-	api.SecRodata: {Read: true},
-	api.SecData:   {Read: true, Write: true},
+func sectionRights() [sections]api.Rights {
+	return [...]api.Rights{
+		api.SecText:   {Read: true, Exec: true},
+		api.SecRodata: {Read: true},
+		api.SecData:   {Read: true, Write: true},
+	}
 }
 
 // settle: finds the addresses at which the sections begin, and what each name stands for.
@@ -70,7 +72,7 @@ func (p *program) image() api.Image {
 	image := api.Image{Entry: uint32(entry)}
 	for s, b := range p.data {
 		if len(b) > 0 {
-			image.Segments = append(image.Segments, api.Segment{VA: uint32(p.bases[s]), Size: uint32(len(b)), Rights: sectionRights[s], Data: b})
+			image.Segments = append(image.Segments, api.Segment{VA: uint32(p.bases[s]), Size: uint32(len(b)), Rights: sectionRights()[s], Data: b})
 		}
 	}
 	for _, name := range p.labels {

@@ -7,16 +7,18 @@ import (
 )
 
 // opNames: of the instructions, by their numbers. The empty text at 0 is no word of a line.
-var opNames = [...]string{
-	api.OpAND: "and", api.OpEOR: "eor", api.OpSUB: "sub", api.OpRSB: "rsb", api.OpADD: "add", api.OpADC: "adc", api.OpSBC: "sbc", api.OpRSC: "rsc",
-	api.OpTST: "tst", api.OpTEQ: "teq", api.OpCMP: "cmp", api.OpCMN: "cmn", api.OpORR: "orr", api.OpMOV: "mov", api.OpBIC: "bic", api.OpMVN: "mvn",
-	api.OpMOVW: "movw", api.OpMOVT: "movt", api.OpMUL: "mul", api.OpMLA: "mla",
-	api.OpUMULL: "umull", api.OpUMLAL: "umlal", api.OpSMULL: "smull", api.OpSMLAL: "smlal",
-	api.OpCLZ: "clz", api.OpREV: "rev", api.OpUXTB: "uxtb", api.OpUXTH: "uxth", api.OpSXTB: "sxtb", api.OpSXTH: "sxth",
-	api.OpLDR: "ldr", api.OpSTR: "str", api.OpLDRB: "ldrb", api.OpSTRB: "strb",
-	api.OpLDRH: "ldrh", api.OpSTRH: "strh", api.OpLDRSB: "ldrsb", api.OpLDRSH: "ldrsh", api.OpLDM: "ldm", api.OpSTM: "stm",
-	api.OpB: "b", api.OpBL: "bl", api.OpBX: "bx", api.OpBLX: "blx", api.OpSVC: "svc", api.OpBKPT: "bkpt",
-	api.OpMRS: "mrs", api.OpMSR: "msr", api.OpMCR: "mcr", api.OpMRC: "mrc", api.OpNOP: "nop", api.OpWFI: "wfi",
+func opNames() [api.OpLast + 1]string {
+	return [...]string{
+		api.OpAND: "and", api.OpEOR: "eor", api.OpSUB: "sub", api.OpRSB: "rsb", api.OpADD: "add", api.OpADC: "adc", api.OpSBC: "sbc", api.OpRSC: "rsc",
+		api.OpTST: "tst", api.OpTEQ: "teq", api.OpCMP: "cmp", api.OpCMN: "cmn", api.OpORR: "orr", api.OpMOV: "mov", api.OpBIC: "bic", api.OpMVN: "mvn",
+		api.OpMOVW: "movw", api.OpMOVT: "movt", api.OpMUL: "mul", api.OpMLA: "mla",
+		api.OpUMULL: "umull", api.OpUMLAL: "umlal", api.OpSMULL: "smull", api.OpSMLAL: "smlal",
+		api.OpCLZ: "clz", api.OpREV: "rev", api.OpUXTB: "uxtb", api.OpUXTH: "uxth", api.OpSXTB: "sxtb", api.OpSXTH: "sxth",
+		api.OpLDR: "ldr", api.OpSTR: "str", api.OpLDRB: "ldrb", api.OpSTRB: "strb",
+		api.OpLDRH: "ldrh", api.OpSTRH: "strh", api.OpLDRSB: "ldrsb", api.OpLDRSH: "ldrsh", api.OpLDM: "ldm", api.OpSTM: "stm",
+		api.OpB: "b", api.OpBL: "bl", api.OpBX: "bx", api.OpBLX: "blx", api.OpSVC: "svc", api.OpBKPT: "bkpt",
+		api.OpMRS: "mrs", api.OpMSR: "msr", api.OpMCR: "mcr", api.OpMRC: "mrc", api.OpNOP: "nop", api.OpWFI: "wfi",
+	}
 }
 
 // mnemonic: its name, what that alone says, whether an s may stand behind it, and how its operands are read.
@@ -61,7 +63,7 @@ func setsFlags(op int) bool {
 
 // nameOf: the name that an instruction is written with.
 func nameOf(i api.Ins) string {
-	name := opNames[i.Op]
+	name := opNames()[i.Op]
 	switch i.Op {
 	case api.OpLDM, api.OpSTM:
 		return name + pick(i.Up, "i", "d") + pick(i.Pre, "b", "a")

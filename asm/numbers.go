@@ -75,7 +75,7 @@ func (d *draft) turnByBytes(n int64) bool {
 
 // shiftedBy: by how many bits Rm is shifted; 32 stands in an instruction as 0.
 func (d *draft) shiftedBy(n int64) bool {
-	s := shifts[d.ins.Shift]
+	s := shifts()[d.ins.Shift]
 	d.ins.Amount = int(n % 32)
 	return n >= s.lo && n <= s.hi
 }

@@ -82,7 +82,7 @@ func (d *draft) pair()        { d.registers(&d.ins.Rd, &d.ins.Rm) }
 func (d *draft) extend() {
 	d.pair()
 	if d.took(',') {
-		d.fixed(shifts[api.ShROR].name)
+		d.fixed(shifts()[api.ShROR].name)
 		d.hash(d.turnByBytes)
 	}
 }

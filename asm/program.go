@@ -41,7 +41,9 @@ func newProgram() *program {
 
 // read: the first pass.
 func (p *program) read(text string) {
-	for line := range strings.SplitSeq(text, "\n") {
+	for more := true; more; {
+		var line string
+		line, text, more = strings.Cut(text, "\n")
 		p.line++
 		p.readLine(cut(line))
 	}

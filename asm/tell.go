@@ -38,11 +38,11 @@ func tellExtend(i api.Ins, at uint32) []string {
 	if i.Amount == 0 {
 		return said
 	}
-	return append(said, shifts[api.ShROR].name+" "+hash(8*i.Amount))
+	return append(said, shifts()[api.ShROR].name+" "+hash(8*i.Amount))
 }
 
 func tellOne(i api.Ins, _ uint32) []string {
-	base := registerNames[i.Rn]
+	base := registerNames()[i.Rn]
 	if i.Form == api.FormImm && i.Imm == 0 && i.Pre && i.Up && !i.Write {
 		return append(registersText(i.Rd), "["+base+"]")
 	}
@@ -54,7 +54,7 @@ func tellOne(i api.Ins, _ uint32) []string {
 }
 
 func tellMany(i api.Ins, _ uint32) []string {
-	return []string{registerNames[i.Rn] + pick(i.Write, "!", ""), listText(i.List)}
+	return []string{registerNames()[i.Rn] + pick(i.Write, "!", ""), listText(i.List)}
 }
 
 func tellBranch(i api.Ins, at uint32) []string {
@@ -71,14 +71,14 @@ func tellReadStatus(i api.Ins, _ uint32) []string {
 func tellWriteStatus(i api.Ins, _ uint32) []string {
 	mask := statusText(i.S) + "_" + maskText(i.Amount)
 	if i.Form == api.FormReg { // its Amount is the mask, no shift
-		return []string{mask, registerNames[i.Rm]}
+		return []string{mask, registerNames()[i.Rm]}
 	}
 	return append([]string{mask}, immediateText(i.Imm)...)
 }
 
 func tellCoprocessor(i api.Ins, _ uint32) []string {
 	t := i.Tuple
-	return []string{"p15", hash(t.Op1), registerNames[i.Rd], numbered('c', t.CRn), numbered('c', t.CRm), hash(t.Op2)}
+	return []string{"p15", hash(t.Op1), registerNames()[i.Rd], numbered('c', t.CRn), numbered('c', t.CRm), hash(t.Op2)}
 }
 
 func tellNothing(api.Ins, uint32) []string { return nil }
@@ -91,7 +91,7 @@ func decimal[T int | uint32](n T) string { return strconv.FormatInt(int64(n), 10
 func registersText(regs ...int) []string {
 	var said []string
 	for _, reg := range regs {
-		said = append(said, registerNames[reg])
+		said = append(said, registerNames()[reg])
 	}
 	return said
 }
@@ -102,7 +102,7 @@ func secondText(i api.Ins) []string {
 	case api.FormImm:
 		return immediateText(i.Imm)
 	case api.FormRsr:
-		return []string{registerNames[i.Rm], shifts[i.Shift].name + " " + registerNames[i.Rs]}
+		return []string{registerNames()[i.Rm], shifts()[i.Shift].name + " " + registerNames()[i.Rs]}
 	}
 	return append(registersText(i.Rm), shiftText(i)...)
 }
@@ -119,7 +119,7 @@ func immediateText(imm uint32) []string {
 // shiftText: how Rm is shifted by a number, if it is.
 func shiftText(i api.Ins) []string {
 	if i.Amount > 0 {
-		return []string{shifts[i.Shift].name + " " + hash(i.Amount)}
+		return []string{shifts()[i.Shift].name + " " + hash(i.Amount)}
 	}
 	switch i.Shift {
 	case api.ShLSL:
@@ -127,7 +127,7 @@ func shiftText(i api.Ins) []string {
 	case api.ShROR:
 		return []string{rrx}
 	}
-	return []string{shifts[i.Shift].name + " #32"}
+	return []string{shifts()[i.Shift].name + " #32"}
 }
 
 // offsetText: of an address.
@@ -136,7 +136,7 @@ func offsetText(i api.Ins) []string {
 	if i.Form == api.FormImm {
 		return []string{"#" + minus + decimal(i.Imm)}
 	}
-	return append([]string{minus + registerNames[i.Rm]}, shiftText(i)...)
+	return append([]string{minus + registerNames()[i.Rm]}, shiftText(i)...)
 }
 
 // listText: the registers of a list, three or more in a row as the first - the last.
@@ -147,9 +147,9 @@ func listText(list uint16) string {
 		row := bits.TrailingZeros(^(rest >> first))
 		if row < 3 {
 			row = 1
-			said = append(said, registerNames[first])
+			said = append(said, registerNames()[first])
 		} else {
-			said = append(said, registerNames[first]+"-"+registerNames[first+row-1])
+			said = append(said, registerNames()[first]+"-"+registerNames()[first+row-1])
 		}
 		rest &^= (1<<row - 1) << first
 	}

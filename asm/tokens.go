@@ -36,13 +36,21 @@ const numberEnd = 1 << 32
 // cut: the tokens of a line.
 func cut(line string) []token {
 	var tokens []token
-	rest := strings.TrimLeft(line, blanks)
+	rest := behindBlanks(line)
 	for rest != "" && !has(remarks, rest[0]) {
 		t, size := first(rest)
 		tokens = append(tokens, t)
-		rest = strings.TrimLeft(rest[size:], blanks)
+		rest = behindBlanks(rest[size:])
 	}
 	return tokens
+}
+
+func behindBlanks(s string) string {
+	at := 0
+	for at < len(s) && has(blanks, s[at]) {
+		at++
+	}
+	return s[at:]
 }
 
 func has(set string, b byte) bool { return strings.IndexByte(set, b) >= 0 }
@@ -85,14 +93,26 @@ func isDigit(s string) bool { return '0' <= s[0] && s[0] <= '9' }
 
 // isLetter: does the text begin with a letter? A name of one rune is a letter.
 func isLetter(s string) bool {
-	_, size := utf8.DecodeRuneInString(s)
+	_, size := firstRune(s)
 	return words.Name(s[:size])
+}
+
+// firstRune: with which the text begins, and how many bytes it has there: a bad one has one byte, that of the empty text none.
+func firstRune(s string) (rune, int) {
+	first := utf8.RuneError
+	for at, r := range s {
+		if at > 0 {
+			return first, at
+		}
+		first = r
+	}
+	return first, len(s)
 }
 
 // character: a rune or an escape between two ' .
 func character(s string) (token, int) {
 	rest := s[1:]
-	r, size := utf8.DecodeRuneInString(rest)
+	r, size := firstRune(rest)
 	switch {
 	case r == '\\':
 		var b byte

@@ -12,15 +12,21 @@ type exception struct {
 	back, vector uint32
 }
 
-// exceptions: by what a step came to; the others have no mode.
-var exceptions = [...]exception{
-	api.TookNone:     {},
-	api.TookUndef:    {mode: api.ModeUND, back: 4, vector: 0x04},
-	api.TookSVC:      {mode: api.ModeSVC, back: 4, vector: 0x08},
-	api.TookPrefetch: {mode: api.ModeABT, back: 4, vector: 0x0C},
-	api.TookData:     {mode: api.ModeABT, back: 8, vector: 0x10},
-	api.TookIRQ:      {mode: api.ModeIRQ, back: 4, vector: 0x18},
-	api.TookWait:     {},
+// exceptionOf: what a step that came to this takes; the others have no mode.
+func exceptionOf(kind int) exception {
+	switch kind {
+	case api.TookUndef:
+		return exception{mode: api.ModeUND, back: 4, vector: 0x04}
+	case api.TookSVC:
+		return exception{mode: api.ModeSVC, back: 4, vector: 0x08}
+	case api.TookPrefetch:
+		return exception{mode: api.ModeABT, back: 4, vector: 0x0C}
+	case api.TookData:
+		return exception{mode: api.ModeABT, back: 8, vector: 0x10}
+	case api.TookIRQ:
+		return exception{mode: api.ModeIRQ, back: 4, vector: 0x18}
+	}
+	return exception{}
 }
 
 // abort: what an instruction gives up with, by panic: what the step comes to.
@@ -37,7 +43,7 @@ type doing struct {
 
 // raise: the exception, if it is one, that a step came to.
 func (c *CPU) raise(kind int) {
-	if x := exceptions[kind]; x.mode != 0 {
+	if x := exceptionOf(kind); x.mode != 0 {
 		c.regs.enter(x)
 	}
 }

@@ -15,8 +15,9 @@ const reachBits = 26
 // read: what a word of that row says.
 func read(r row, w uint32) api.Ins {
 	i := api.Ins{Cond: int(w >> condAt), Op: int(r.op), Form: int(r.form)}
+	parts := places()
 	for left := r.parts; left != 0; left &= left - 1 {
-		p := places[bits.TrailingZeros32(left)]
+		p := parts[bits.TrailingZeros32(left)]
 		put(&i, p.field, w>>p.at&(1<<p.wide-1)<<p.from)
 	}
 	if r.has(partReach) {
@@ -28,8 +29,9 @@ func read(r row, w uint32) api.Ins {
 // lay: the word of that row that says the instruction, if the row has room for it all; else a word that says another, or none.
 func lay(r row, i api.Ins) uint32 {
 	w := r.bits | uint32(i.Cond)<<condAt
+	parts := places()
 	for left := r.parts; left != 0; left &= left - 1 {
-		p := places[bits.TrailingZeros32(left)]
+		p := parts[bits.TrailingZeros32(left)]
 		w |= value(i, p.field) >> p.from & (1<<p.wide - 1) << p.at
 	}
 	return w
